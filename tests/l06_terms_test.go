@@ -528,32 +528,35 @@ func TestTermSizeIsThatOfThePartsPlusOne(t *testing.T) {
 	}
 }
 
-// TestTermOpenUnderBinders puts a variable into up to four terms around it.
-func TestTermOpenUnderBinders(t *testing.T) {
-	around := []struct {
+// everyPlace calls use with the text before and after each place in up to most terms around it, and the number of binders above it.
+func everyPlace(most int, use func(before string, after string, binders int)) {
+	use("", "", 0)
+	if most == 0 {
+		return
+	}
+	forms := []struct {
 		before, after string
 		binders       int
 	}{
 		{"lsz.", "", 1}, {"psz.", "", 1}, {"tsz.sz.", "", 1},
 		{"l", "sz.", 0}, {"p", "sz.", 0}, {"t", "sz.sz.", 0}, {"tsz.", "sz.", 0}, {"@", "sz.", 0}, {"@sz.", "", 0},
 	}
-	numbers := []int{0, 1, 2, 3, 4, 5, 998, 999}
-	for list := range 9 * 9 * 9 * 9 {
-		for _, n := range numbers {
-			text, binders := "v"+strconv.Itoa(n)+".", 0
-			for depth, left := 0, list; depth < 4; depth, left = depth+1, left/9 {
-				form := around[left%9]
-				if depth > 0 && list/9 == 0 {
-					break
-				}
-				text = form.before + text + form.after
-				binders += form.binders
-			}
+	for _, form := range forms {
+		everyPlace(most-1, func(before string, after string, binders int) {
+			use(form.before+before, after+form.after, form.binders+binders)
+		})
+	}
+}
+
+func TestTermOpenUnderBinders(t *testing.T) {
+	everyPlace(4, func(before string, after string, binders int) {
+		for _, n := range []int{0, 1, 2, 3, 4, 5, 998, 999} {
+			text := before + variableTree(n).text + after
 			if got, want := impl.TermOpen(text), max(n+1-binders, 0); got != want {
 				t.Errorf("TermOpen(%q) = %d, want %d", text, got, want)
 			}
 		}
-	}
+	})
 }
 
 func TestTermOpenManyBinders(t *testing.T) {
