@@ -61,14 +61,17 @@ func (whole tree) open() int {
 	return slices.Max(append(slices.Clone(whole.free), -1)) + 1
 }
 
-// isLevel replaces parts of levels by the shortest level until only that is left.
+// shorterLevels replaces parts of levels by the shortest level.
+var shorterLevels = strings.NewReplacer("u0", "z", "u1", "z", "u2", "z", "+z", "z", "mzz", "z", "izz", "z")
+
+// isLevel shortens s until only the shortest level is left.
 func isLevel(s string) bool {
 	if len(s) > 60 {
 		return false
 	}
 	for before := ""; before != s; {
 		before = s
-		s = strings.NewReplacer("u0", "z", "u1", "z", "u2", "z", "+z", "z", "mzz", "z", "izz", "z").Replace(s)
+		s = shorterLevels.Replace(s)
 	}
 	return s == "z"
 }

@@ -636,16 +636,22 @@ func TestUsesOfManyNames(t *testing.T) {
 
 // closedAt replaces what makes s, which is a term, no closed term of a declaration with this number of parameters.
 func closedAt(s string, params int) string {
+	return closedUnder(s, 0, params)
+}
+
+// closedUnder does the same for a term that is under this many binders, whose variables it may have.
+func closedUnder(s string, outer int, params int) string {
 	args := append(slices.Clone(selfParams[:params]), slices.Repeat([]string{"z"}, 3-params)...)
 	s, _ = wantTermLevels(s, args)
 	s, _ = changedTerm(s, func(leaf tree, binders int) (string, bool) {
-		if len(leaf.free) == 0 || leaf.free[0] < binders {
+		known := outer + binders
+		if len(leaf.free) == 0 || leaf.free[0] < known {
 			return leaf.text, true
 		}
-		if binders == 0 {
+		if known == 0 {
 			return "sz.", true
 		}
-		return variableTree(leaf.free[0] % binders).text, true
+		return variableTree(leaf.free[0] % known).text, true
 	})
 	return s
 }

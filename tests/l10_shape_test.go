@@ -79,6 +79,15 @@ func wantAbove(level string) bool {
 	return valueIn(level, []int{0, 0, 0}) > 0
 }
 
+// indexesAround returns the indexes of this many elements, and some that refer to none.
+func indexesAround(count int) []int {
+	indexes := []int{math.MinInt, -1 << 32, -7, -2, -1, count + 1, 7, 100, 1 << 32, 1<<32 + 1, math.MaxInt}
+	for k := range count + 1 {
+		indexes = append(indexes, k)
+	}
+	return indexes
+}
+
 // checkShapeWants checks all functions that take a declaration, also for indexes without a constructor, and that they leave the declaration as it is.
 func checkShapeWants(t *testing.T, d impl.Decl, want shapeWants) {
 	t.Helper()
@@ -87,11 +96,7 @@ func checkShapeWants(t *testing.T, d impl.Decl, want shapeWants) {
 	if positive, large := impl.Positive(d), impl.LargeOk(d); positive != want.positive || large != want.large {
 		t.Errorf("Positive, LargeOk(%.500q) = %v, %v, want %v, %v", stringsOf(d), positive, large, want.positive, want.large)
 	}
-	indexes := []int{math.MinInt, -1 << 32, -7, -2, -1, len(d.Ctors) + 1, 7, 100, 1 << 32, 1<<32 + 1, math.MaxInt}
-	for k := range len(d.Ctors) + 1 {
-		indexes = append(indexes, k)
-	}
-	for _, k := range indexes {
+	for _, k := range indexesAround(len(d.Ctors)) {
 		shapes, result := []int{}, false
 		if k >= 0 && k < len(want.shapes) {
 			shapes, result = want.shapes[k], want.results[k]
@@ -338,44 +343,53 @@ func TestShapesOfOtherKinds(t *testing.T) {
 	}
 }
 
+// brokenData returns declarations that are no valid data types, each of which differs in one part from d, which is one.
+func brokenData(d impl.Decl) []impl.Decl {
+	broken := []impl.Decl{}
+	for _, change := range []func(*impl.Decl){
+		func(d *impl.Decl) { d.Kind = 0 },
+		func(d *impl.Decl) { d.Name = "" },
+		func(d *impl.Decl) { d.Name = "A" },
+		func(d *impl.Decl) { d.Name += "." },
+		func(d *impl.Decl) { d.Name = strings.Repeat("a", 37) },
+		func(d *impl.Decl) { d.Params = -1 },
+		func(d *impl.Decl) { d.Params = 3 },
+		func(d *impl.Decl) { d.Params = math.MaxInt },
+		func(d *impl.Decl) { d.Flags = -1 },
+		func(d *impl.Decl) { d.Flags = impl.FlUnsafe },
+		func(d *impl.Decl) { d.Flags = 8 },
+		func(d *impl.Decl) { d.Type = "" },
+		func(d *impl.Decl) { d.Type = "s+z" },
+		func(d *impl.Decl) { d.Type = "su1." },
+		func(d *impl.Decl) { d.Type = "s+u2." },
+		func(d *impl.Decl) { d.Type = "cnat;." },
+		func(d *impl.Decl) { d.Type = "psz.s+z." },
+		func(d *impl.Decl) { d.Type = "lsz.s+z." },
+		func(d *impl.Decl) { d.Type = "s" + strings.Repeat("+", 60) + "z." },
+		func(d *impl.Decl) { d.Value = "sz." },
+		func(d *impl.Decl) { d.Ctors = append(d.Ctors, impl.Ctor{}) },
+		func(d *impl.Decl) { d.Ctors = append(d.Ctors, impl.Ctor{Name: d.Name + ".rec", Type: "sz."}) },
+		func(d *impl.Decl) { d.Ctors = append(d.Ctors, impl.Ctor{Name: d.Name + ".x", Type: "v0."}) },
+		func(d *impl.Decl) { d.Ctors = append(d.Ctors, impl.Ctor{Name: d.Name + ".x", Type: "su2."}) },
+		func(d *impl.Decl) { d.Ctors = append(d.Ctors, impl.Ctor{Name: d.Name + ".x"}) },
+		func(d *impl.Decl) { d.Ctors = append(d.Ctors, ctorsFor(d.Name+".x", d.Name+".x")...) },
+		func(d *impl.Decl) { d.Ctors = append(d.Ctors, ctorsFor("other.x")...) },
+		func(d *impl.Decl) { d.Ctors = slices.Repeat(ctorsFor(d.Name+".x"), 7) },
+		func(d *impl.Decl) { d.Ctors = make([]impl.Ctor, 50) },
+	} {
+		changed := d
+		changed.Ctors = slices.Clone(d.Ctors)
+		change(&changed)
+		broken = append(broken, changed)
+	}
+	return broken
+}
+
 // TestShapesOfInvalidDeclarations changes one part of data types that are positive and large.
 func TestShapesOfInvalidDeclarations(t *testing.T) {
 	for _, d := range []impl.Decl{natData(), boxData(), dataWith()} {
 		checkDataShapes(t, d, true)
-		for _, change := range []func(*impl.Decl){
-			func(d *impl.Decl) { d.Kind = 0 },
-			func(d *impl.Decl) { d.Name = "" },
-			func(d *impl.Decl) { d.Name = "A" },
-			func(d *impl.Decl) { d.Name += "." },
-			func(d *impl.Decl) { d.Name = strings.Repeat("a", 37) },
-			func(d *impl.Decl) { d.Params = -1 },
-			func(d *impl.Decl) { d.Params = 3 },
-			func(d *impl.Decl) { d.Params = math.MaxInt },
-			func(d *impl.Decl) { d.Flags = -1 },
-			func(d *impl.Decl) { d.Flags = impl.FlUnsafe },
-			func(d *impl.Decl) { d.Flags = 8 },
-			func(d *impl.Decl) { d.Type = "" },
-			func(d *impl.Decl) { d.Type = "s+z" },
-			func(d *impl.Decl) { d.Type = "su1." },
-			func(d *impl.Decl) { d.Type = "s+u2." },
-			func(d *impl.Decl) { d.Type = "cnat;." },
-			func(d *impl.Decl) { d.Type = "psz.s+z." },
-			func(d *impl.Decl) { d.Type = "lsz.s+z." },
-			func(d *impl.Decl) { d.Type = "s" + strings.Repeat("+", 60) + "z." },
-			func(d *impl.Decl) { d.Value = "sz." },
-			func(d *impl.Decl) { d.Ctors = append(d.Ctors, impl.Ctor{}) },
-			func(d *impl.Decl) { d.Ctors = append(d.Ctors, impl.Ctor{Name: d.Name + ".rec", Type: "sz."}) },
-			func(d *impl.Decl) { d.Ctors = append(d.Ctors, impl.Ctor{Name: d.Name + ".x", Type: "v0."}) },
-			func(d *impl.Decl) { d.Ctors = append(d.Ctors, impl.Ctor{Name: d.Name + ".x", Type: "su2."}) },
-			func(d *impl.Decl) { d.Ctors = append(d.Ctors, impl.Ctor{Name: d.Name + ".x"}) },
-			func(d *impl.Decl) { d.Ctors = append(d.Ctors, ctorsFor(d.Name+".x", d.Name+".x")...) },
-			func(d *impl.Decl) { d.Ctors = append(d.Ctors, ctorsFor("other.x")...) },
-			func(d *impl.Decl) { d.Ctors = slices.Repeat(ctorsFor(d.Name+".x"), 7) },
-			func(d *impl.Decl) { d.Ctors = make([]impl.Ctor, 50) },
-		} {
-			changed := d
-			changed.Ctors = slices.Clone(d.Ctors)
-			change(&changed)
+		for _, changed := range brokenData(d) {
 			checkDataShapes(t, changed, false)
 		}
 	}
